@@ -1,0 +1,1 @@
+"""Palette reduction: optimal one-dimensional clustering with medians."""
