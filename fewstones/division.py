@@ -1,12 +1,17 @@
-"""The best groups of shades: medians, errors and the division with the smallest total error.
+"""Medians, errors, and the best groups: the division of the shades with the smallest total error.
 
 Shades are a list in ascending order of the levels; each shade is a tuple (level, count).
 """
 
 
+def tiles_of(group):
+    """The number of tiles that have the shades of the group."""
+    return sum([count for level, count in group])
+
+
 def median_of(group):
     """The first level at which the counts add up to at least half of all counts of the group."""
-    total = sum([count for level, count in group])
+    total = tiles_of(group)
     place = 0
     reached = group[0][1]
     # Doubled instead of halved, so that an odd total stays exact.
@@ -16,8 +21,9 @@ def median_of(group):
     return group[place][0]
 
 
-def error_with(group, colour):
-    """The error of the group with this colour."""
+def error_of(group):
+    """The error of the group with its median."""
+    colour = median_of(group)
     return sum([count * abs(level - colour) for level, count in group])
 
 
@@ -27,8 +33,7 @@ def errors_of_groups(shades):
     for first in range(len(shades)):
         row = []
         for behind in range(first + 1, len(shades) + 1):
-            group = shades[first:behind]
-            row.append(error_with(group, median_of(group)))
+            row.append(error_of(shades[first:behind]))
         errors.append(row)
     return errors
 
@@ -64,12 +69,25 @@ def best_sizes(shades, k):
 
 
 def best_division(shades, k):
-    """The best groups for k colours, in ascending order: a tuple (size, colour, error) for each."""
+    """The best groups for k colours, in ascending order, each with its shades."""
     groups = []
     first = 0
     for size in best_sizes(shades, k):
-        group = shades[first:first + size]
-        colour = median_of(group)
-        groups.append((size, colour, error_with(group, colour)))
+        groups.append(shades[first:first + size])
         first += size
     return groups
+
+
+def minimum_error(shades, k):
+    """The total error of the best groups for k colours; with shades, k is at least 1."""
+    return sum([error_of(group) for group in best_division(shades, k)])
+
+
+def distance(level, palette):
+    """How far the level is from the nearest colour of the palette."""
+    return min([abs(level - colour) for colour in palette])
+
+
+def error_with_palette(shades, palette):
+    """The error of the shades when each has the nearest colour of the palette."""
+    return sum([count * distance(level, palette) for level, count in shades])

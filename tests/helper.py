@@ -38,6 +38,38 @@ def colour_of(i, k):
     return [7, i, k]
 
 
+def error_reduction(k):
+    return [8, k]
+
+
+def error_table():
+    return [9]
+
+
+def min_colours(max_error):
+    return [10, max_error]
+
+
+def palette_error(palette):
+    return [11, len(palette)] + list(palette)
+
+
+def median(i, j):
+    return [12, i, j]
+
+
+def group_counts(k):
+    return [13, k]
+
+
+def totals():
+    return [14]
+
+
+def describe():
+    return [15]
+
+
 def in_one_list(calls):
     return [number for call in calls for number in call]
 
@@ -57,6 +89,8 @@ def taken_apart(answered):
 
 def request(calls):
     """The answers to these calls, one list for each of them."""
+    if not 1 <= len(calls) <= 60:
+        raise AssertionError(f"no request has {len(calls)} calls")
     apart = taken_apart(answers(in_one_list(calls)))
     if len(apart) != len(calls):
         raise AssertionError(f"{len(calls)} calls, but {len(apart)} answers")
@@ -79,12 +113,9 @@ def ask_one(shades, call):
 
 
 def state_after(calls):
-    """The shades after these calls, as (level, count) in ascending order.
-
-    With 12 colours every shade is its own group, so that the best palette shows the levels;
-    set_count shows the counts.
-    """
-    levels = request(calls + [best_palette(12)])[-1][1:]
-    reading = [set_count(i, 1) for i in range(len(levels))]
-    counts = [answer[0] for answer in request(calls + reading)[len(calls):]]
-    return list(zip(levels, counts))
+    """The shades after these calls, as (level, count) in ascending order."""
+    described = request(calls + [describe()])[-1]
+    shades = list(zip(described[1::2], described[2::2]))
+    if described != [len(shades)] + [number for shade in shades for number in shade]:
+        raise AssertionError(f"no list of shades: {described}")
+    return shades

@@ -4,14 +4,23 @@ import unittest
 
 from helper import (
     HIGHEST, LOWEST, add_shade, ask, ask_one, best_groups, best_palette, colour_of, create,
-    min_error, picture, remove_shade, request, set_count, state_after,
+    describe, error_reduction, error_table, group_counts, median, min_colours, min_error,
+    palette_error, picture, remove_shade, request, set_count, state_after, totals,
 )
 
 FOUR = [(20, 3), (30, 1), (100, 2), (110, 1)]
 TWELVE = [(20 * number, 1 + number) for number in range(12)]
 OTHERS = [
     add_shade(100, 2), remove_shade(0), set_count(0, 5), min_error(1), best_palette(1),
-    best_groups(1), colour_of(0, 1),
+    best_groups(1), colour_of(0, 1), error_reduction(1), error_table(), min_colours(0),
+    palette_error([20, 100]), median(0, 0), group_counts(1), totals(), describe(),
+]
+# Every operation from number 4 on, as a call that is answered on FOUR, TWELVE and one shade.
+QUERIES = [
+    min_error(1), min_error(2), best_palette(1), best_palette(12), best_groups(2),
+    colour_of(0, 2), error_reduction(1), error_reduction(12), error_table(), min_colours(0),
+    min_colours(15), palette_error([0]), palette_error(range(250, 238, -1)), median(0, 0),
+    group_counts(2), totals(), describe(),
 ]
 
 
@@ -37,6 +46,9 @@ class CreateTest(unittest.TestCase):
         wrong = [
             add_shade(256, 0), remove_shade(-1), set_count(-1, 0), min_error(13),
             best_palette(-1), best_groups(HIGHEST), colour_of(LOWEST, 0), min_error(0),
+            error_reduction(0), error_reduction(13), min_colours(-1), palette_error([]),
+            palette_error([256]), palette_error([7] * 70), median(-1, 0), median(1, 0),
+            group_counts(0), group_counts(-1),
         ]
         self.assertEqual(request(wrong), [[-11]] * len(wrong))
 
@@ -148,6 +160,10 @@ class RefusalTest(unittest.TestCase):
             (min_error(13), -22), (best_palette(0), -33), (best_palette(-1), -22),
             (best_groups(0), -33), (best_groups(13), -22), (colour_of(-1, 2), -2),
             (colour_of(4, 2), -2), (colour_of(0, 13), -22), (colour_of(0, 0), -33),
+            (error_reduction(0), -33), (error_reduction(13), -22), (min_colours(-1), -22),
+            (palette_error([]), -22), (palette_error([20] * 13), -22),
+            (palette_error([20, 256]), -22), (median(0, 4), -2), (median(-1, 0), -2),
+            (median(3, 0), -22), (group_counts(0), -33), (group_counts(13), -22),
         ])
 
     def test_leaves_twelve_shades_as_they_were(self):
@@ -156,12 +172,37 @@ class RefusalTest(unittest.TestCase):
     def test_leaves_an_instance_without_shades_as_it_was(self):
         self.check_unchanged([], [
             (add_shade(256, 1), -22), (remove_shade(0), -2), (set_count(0, 1), -2),
-            (min_error(13), -22), (colour_of(0, 1), -2),
+            (min_error(13), -22), (colour_of(0, 1), -2), (error_reduction(-1), -22),
+            (min_colours(-1), -22), (palette_error([]), -22), (median(0, 0), -2),
+            (group_counts(13), -22),
         ])
 
     def test_is_not_the_end_of_the_request(self):
         answered = ask([], add_shade(0, 0), add_shade(0, 1), remove_shade(1), min_error(1))
         self.assertEqual(answered, [[-22], [0], [-2], [0]])
+
+
+class QueriesTest(unittest.TestCase):
+    def test_each_leaves_the_shades_as_they_were(self):
+        for shades in (FOUR, TWELVE, FOUR[:1]):
+            for call in QUERIES:
+                with self.subTest(shades=shades, call=call):
+                    calls = picture(shades) + [call]
+                    self.assertGreaterEqual(request(calls)[-1][0], 0)
+                    self.assertEqual(state_after(calls), shades)
+
+    def test_asked_again_each_answers_the_same(self):
+        for shades in (FOUR, TWELVE, FOUR[:1]):
+            answered = ask(shades, *(QUERIES + QUERIES))
+            self.assertEqual(answered[:len(QUERIES)], answered[len(QUERIES):])
+
+    def test_each_leaves_an_instance_without_shades_as_it_was(self):
+        queries = [
+            min_error(0), best_palette(0), best_groups(0), error_reduction(0), error_table(),
+            min_colours(0), palette_error([5]), group_counts(0), totals(), describe(),
+        ]
+        self.assertEqual(state_after([create()] + queries), [])
+        self.assertEqual(ask([], *(queries + [add_shade(9, 9), describe()]))[-1], [1, 9, 9])
 
 
 if __name__ == "__main__":
